@@ -8,6 +8,7 @@ import (
 	"testing"
 
 	"timesync/api"
+	"timesync/drift"
 	"timesync/osc"
 )
 
@@ -437,6 +438,39 @@ func TestLaterSegments(t *testing.T) {
 			earlier := api.Osc{Phase: o.Phase, Segs: o.Segs[:i+1]}
 			for _, at := range []int{0, s.At / 2, s.At - 1, s.At} {
 				checkRead(t, earlier, at, read(t, o, at), api.OK)
+			}
+		}
+	}
+}
+
+// P9.7
+func TestDurationsAreWithinBounds(t *testing.T) {
+	for _, o := range oscillators() {
+		bound := osc.Bound(o)
+		times := trueTimes(o)
+		for i, a := range times {
+			for _, b := range times[i:] {
+				raw := read(t, o, b) - read(t, o, a)
+				for _, tol := range []int{bound, min(bound+1, api.MaxPPB), (bound + api.MaxPPB) / 2, api.MaxPPB} {
+					least, most, e := drift.Elapsed(raw, tol)
+					if e != api.OK || b-a < least || b-a > most {
+						t.Fatalf("Elapsed(%d, %d) = %d, %d, %d; between the true times %d and %d the readings of %v rise by %d", raw, tol, least, most, e, a, b, o, raw)
+					}
+				}
+			}
+		}
+	}
+}
+
+// P9.7
+func TestEachNanosecondIsWithinBounds(t *testing.T) {
+	slowFast := oscillator(0, api.Segment{PPB: -api.MaxPPB}, api.Segment{At: 2000, PPB: api.MaxPPB})
+	for a := range 4100 {
+		for b := a; b <= 4100; b += 1 + b%7 {
+			raw := read(t, slowFast, b) - read(t, slowFast, a)
+			least, most, e := drift.Elapsed(raw, api.MaxPPB)
+			if e != api.OK || b-a < least || b-a > most {
+				t.Fatalf("Elapsed(%d, MaxPPB) = %d, %d, %d; the true times are %d and %d", raw, least, most, e, a, b)
 			}
 		}
 	}
